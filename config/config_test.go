@@ -52,9 +52,9 @@ func TestText(t *testing.T) {
 	same := of(1, 1, 0)
 	same.Seed, same.Same = 1<<64-1, true
 	for text, c := range map[string]api.Config{
-		"count=1024 bytes=1048576 protected=80 seed=0 same=no":          config.Default(),
+		"count=1024 bytes=1048576 protected=80 seed=0 same=no":           config.Default(),
 		"count=1 bytes=1 protected=0 seed=18446744073709551615 same=yes": same,
-		"count=1048576 bytes=1099511627776 protected=99 seed=0 same=no": of(1<<20, 1<<40, 99),
+		"count=1048576 bytes=1099511627776 protected=99 seed=0 same=no":  of(1<<20, 1<<40, 99),
 	} {
 		s, e := config.Text(c)
 		x, f := config.Parse(text)
