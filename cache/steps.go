@@ -8,11 +8,10 @@ import (
 	"cubbyhole/event"
 	"cubbyhole/tick"
 	"cubbyhole/victim"
-	"cubbyhole/word"
 )
 
 // lanes is the number of lanes of a group of the index.
-const lanes = word.Lanes
+const lanes = 8
 
 // test looks for one error. It is a function, since a nil cache has nothing to look at.
 type test func() api.Errno
