@@ -1,0 +1,33 @@
+package slotmap_test
+
+import (
+	"testing"
+
+	"cubbyhole/slotmap"
+)
+
+func TestSlots(t *testing.T) {
+	var s slotmap.Slots
+	if _, ok := s.Slot(5); ok || s.Len() != 0 || s.Key(3) != 0 {
+		t.Error("zero value")
+	}
+	if a, b, c := s.Put(5), s.Put(1<<32-1), s.Put(0); a != 0 || b != 1 || c != 2 {
+		t.Error(a, b, c)
+	}
+	x := s.Copy()
+	if slot, ok := s.Take(1<<32 - 1); slot != 1 || !ok || s.Len() != 2 {
+		t.Error(slot, ok)
+	}
+	if slot, ok := s.Take(1<<32 - 1); slot != 0 || ok {
+		t.Error(slot, ok)
+	}
+	if slot := s.Put(7); slot != 1 || s.Key(1) != 7 || x.Key(1) != 1<<32-1 || x.Len() != 3 {
+		t.Error(slot)
+	}
+	if slot, ok := s.Slot(7); slot != 1 || !ok {
+		t.Error(slot, ok)
+	}
+	if l := s.Keys([]uint32{0, 1, 2}); len(l) != 3 || l[0] != 0 || l[1] != 7 || l[2] != 5 {
+		t.Error(l)
+	}
+}
