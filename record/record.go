@@ -11,10 +11,12 @@ import (
 // Start is the sum of no bytes.
 const Start uint32 = 5381
 
+// SumSize is how many bytes of a record are its sum.
+const SumSize = 4
+
 const (
 	factor  = 33
 	lenSize = 2
-	sumSize = 4
 )
 
 // Fold returns the sum after some bytes, slice by slice.
@@ -49,11 +51,11 @@ func Next(b []byte, sum uint32) (o api.Op, n int, ok bool) {
 	if len(b) < lenSize {
 		return api.Op{}, 0, false
 	}
-	n = lenSize + int(b[0])<<8 + int(b[1]) + sumSize
+	n = lenSize + int(b[0])<<8 + int(b[1]) + SumSize
 	if len(b) < n {
 		return api.Op{}, 0, false
 	}
-	l, e := script.Parse(b[lenSize : n-sumSize])
+	l, e := script.Parse(b[lenSize : n-SumSize])
 	if e != api.OK || len(l) != 1 {
 		return api.Op{}, 0, false
 	}
