@@ -11,7 +11,7 @@ import (
 const parts = 4
 
 // isValid reports whether numbers are valid.
-func isValid(x [parts]api.Gauss) bool {
+func isValid(x [4]api.Gauss) bool {
 	for _, g := range x {
 		if !isPart(g.Re) || !isPart(g.Im) {
 			return false
@@ -31,13 +31,13 @@ func gauss(z complex128) api.Gauss { return api.Gauss{Re: int(real(z)), Im: int(
 
 // power returns i to the power of any exponent.
 func power(exponent int) complex128 {
-	powers := [parts]complex128{1, 1i, -1, -1i}
+	powers := [4]complex128{1, 1i, -1, -1i}
 	return powers[exponent&(parts-1)]
 }
 
 // sums returns the sums of x[j] times i to the power of sign j k, for each k.
-func sums(x [parts]api.Gauss, sign int) [parts]complex128 {
-	var y [parts]complex128
+func sums(x [4]api.Gauss, sign int) [4]complex128 {
+	var y [4]complex128
 	for k := range y {
 		for j := range x {
 			y[k] += number(x[j]) * power(sign*j*k)
@@ -47,11 +47,11 @@ func sums(x [parts]api.Gauss, sign int) [parts]complex128 {
 }
 
 // Transform returns the transform of four numbers, or an error.
-func Transform(x [parts]api.Gauss) ([parts]api.Gauss, api.Errno) {
+func Transform(x [4]api.Gauss) ([4]api.Gauss, api.Errno) {
 	if !isValid(x) {
-		return [parts]api.Gauss{}, api.ErrArg
+		return [4]api.Gauss{}, api.ErrArg
 	}
-	var y [parts]api.Gauss
+	var y [4]api.Gauss
 	for k, z := range sums(x, -1) {
 		y[k] = gauss(z)
 	}
@@ -59,15 +59,15 @@ func Transform(x [parts]api.Gauss) ([parts]api.Gauss, api.Errno) {
 }
 
 // Inverse returns the inverse transform of four numbers, or an error.
-func Inverse(x [parts]api.Gauss) ([parts]api.Gauss, api.Errno) {
+func Inverse(x [4]api.Gauss) ([4]api.Gauss, api.Errno) {
 	if !isValid(x) {
-		return [parts]api.Gauss{}, api.ErrArg
+		return [4]api.Gauss{}, api.ErrArg
 	}
-	var y [parts]api.Gauss
+	var y [4]api.Gauss
 	for j, z := range sums(x, 1) {
 		g := gauss(z)
 		if g.Re%parts != 0 || g.Im%parts != 0 {
-			return [parts]api.Gauss{}, api.ErrCheck
+			return [4]api.Gauss{}, api.ErrCheck
 		}
 		y[j] = api.Gauss{Re: g.Re / parts, Im: g.Im / parts}
 	}
@@ -75,17 +75,17 @@ func Inverse(x [parts]api.Gauss) ([parts]api.Gauss, api.Errno) {
 }
 
 // Product returns the cyclic product of four numbers and four others, or an error.
-func Product(x, y [parts]api.Gauss) ([parts]api.Gauss, api.Errno) {
+func Product(x, y [4]api.Gauss) ([4]api.Gauss, api.Errno) {
 	if !isValid(x) || !isValid(y) {
-		return [parts]api.Gauss{}, api.ErrArg
+		return [4]api.Gauss{}, api.ErrArg
 	}
-	var sum [parts]complex128
+	var sum [4]complex128
 	for a := range x {
 		for b := range y {
 			sum[(a+b)%parts] += number(x[a]) * number(y[b])
 		}
 	}
-	var z [parts]api.Gauss
+	var z [4]api.Gauss
 	for j := range sum {
 		z[j] = gauss(sum[j])
 	}
@@ -93,8 +93,8 @@ func Product(x, y [parts]api.Gauss) ([parts]api.Gauss, api.Errno) {
 }
 
 // Turn turns four numbers.
-func Turn(x [parts]api.Gauss, n int) [parts]api.Gauss {
-	var y [parts]api.Gauss
+func Turn(x [4]api.Gauss, n int) [4]api.Gauss {
+	var y [4]api.Gauss
 	for j, g := range x {
 		// The last two bits are the rest modulo 4 also below 0.
 		y[(j+n&(parts-1))%parts] = g
