@@ -117,8 +117,9 @@ func list[T any](c *coder, x *[]T, each func(*T)) {
 	n := len(*x)
 	c.int(&n)
 	if !c.reading {
-		for i := range *x {
-			each(&(*x)[i])
+		// Each one is handed on as a copy: what is written is not to be touched.
+		for _, v := range *x {
+			each(&v)
 		}
 		return
 	}
