@@ -117,6 +117,7 @@ func TestComplaints(t *testing.T) {
 		{lists, api.Op{Kind: set, Key: "d"}, func(r *api.Result) { r.Events[0] = e(api.Evicted, "d", "", 4, api.Never, 1) }, 4}, {lists, api.Op{Kind: set, Key: "d"}, func(r *api.Result) { r.Events[0] = e(api.Evicted, "c", "", 3, api.Never, 1) }, 0},
 		{plain, api.Op{Kind: set, Key: "d"}, func(r *api.Result) { r.Events[0] = e(api.Evicted, "c", "", 3, api.Never, 1) }, 4}, {plain, api.Op{Kind: set, Key: "d"}, func(r *api.Result) {}, 0},
 		{plain, api.Op{Kind: set, Key: "d"}, func(r *api.Result) { r.Events[0] = e(api.Evicted, "a", "1", 1, api.Never, 1); r.Cost-- }, 4},
+		{lists, api.Op{Kind: setTTL, Key: "d", TTL: 9}, func(r *api.Result) { r.Events[0] = e(api.Evicted, "d", "", 4, 10, 1) }, 4}, {lists, api.Op{Kind: set, Key: "d", Value: make([]byte, 151)}, func(r *api.Result) {}, 0},
 		// budgets
 		{lists, api.Op{Kind: set, Key: "d"}, func(r *api.Result) { r.Events = nil }, 5}, {lists, api.Op{Kind: resize, Count: 1, Bytes: 100}, func(r *api.Result) { r.Events = r.Events[1:] }, 5}, {lists, api.Op{Kind: adv}, func(r *api.Result) { r.Len = 2 }, 5}, {lists, api.Op{Kind: adv}, func(r *api.Result) { r.Cost++ }, 5},
 		{lists, api.Op{Kind: get}, func(r *api.Result) { r.Len++ }, 5}, {lists, api.Op{Kind: resize, Count: 3, Bytes: 100}, func(r *api.Result) { r.Events, r.Len, r.Cost = nil, 3, 148 }, 5},

@@ -92,6 +92,7 @@ func TestUnsorted(t *testing.T) {
 	is(t, "5 0")(birth.Rank(d, top))
 	is(t, "3 0")(birth.Rank(d, 7))
 	is(t, "false false true true")(birth.Sorted(d), birth.Sorted(dictOf(1, 1)), birth.Sorted(dictOf()), birth.Sorted(dictOf(top)))
+	is(t, "true true")(birth.Sorted(dictOf(1)), birth.Sorted(dictOf(1, 2)))
 	is(t, "0 14")(birth.After(dictOf(), 0))
 	is(t, "0 9")(birth.Find(dictOf(), 1))
 	is(t, "0 0")(birth.Rank(dictOf(), 1))

@@ -101,6 +101,7 @@ func TestFull(t *testing.T) {
 	is(t, "7 7 0 9")(b.Add(0, 0), b.Move(1, 0), b.Add(1, 5), b.Change(1, 4, 5))
 	is(t, "7 7 0")(b.Move(1, 5), b.Move(1, 4), b.Move(0, 1<<40))
 	is(t, "2097151 2305841909702066176")(b.Used(0))
+	is(t, "0 7 0")(b.Move(1, 5), b.Add(0, 1<<40), b.Move(0, 5)) // just one is too many
 	is(t, "2097152 2305843009213693956")(b.Over())
 }
 
@@ -115,4 +116,17 @@ func TestParts(t *testing.T) {
 			}
 		}
 	}
+}
+
+// TestTotal makes the cost of a segment as great as it may be.
+func TestTotal(t *testing.T) {
+	b := budgetOf(t, 1, 1)
+	is(t, "0 0 0 0")(b.Add(0, 0), b.Add(0, 0), b.Add(1, 1), b.Add(1, 1))
+	for range budget.MaxTotal >> 40 {
+		if b.Change(0, 0, 1<<40) != api.OK {
+			t.Fatal("full")
+		}
+	}
+	is(t, "2 2305843009213693952")(b.Used(0))
+	is(t, "7 7 7 0 0 7")(b.Change(0, 0, 1), b.Add(0, 1), b.Move(1, 1), b.Add(0, 0), b.Change(0, 1, 0), b.Change(0, 0, 2))
 }

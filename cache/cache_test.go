@@ -194,7 +194,7 @@ func TestValidRestore(t *testing.T) {
 		func(s *api.CacheState) { s.Config.Count = 3 }, func(s *api.CacheState) { s.Config.Bytes = 199 }, func(s *api.CacheState) { s.Config.Protected = 49 }, func(s *api.CacheState) { s.Config.Protected = 0 },
 		func(s *api.CacheState) { s.Config.Protected = 100 }, func(s *api.CacheState) { s.Config.Count = 0 }, func(s *api.CacheState) { s.Now = 11 }, func(s *api.CacheState) { s.Now = 9 }, func(s *api.CacheState) { s.Now = never },
 		func(s *api.CacheState) { s.Births = 8 }, func(s *api.CacheState) { s.Entries[1].Key = "a" }, func(s *api.CacheState) { s.Entries[1].Key = "" }, func(s *api.CacheState) { s.Entries[0].Birth = 0 },
-		func(s *api.CacheState) { s.Entries[1].Birth = 2 }, func(s *api.CacheState) { s.Entries[0], s.Entries[1] = s.Entries[1], s.Entries[0] }, func(s *api.CacheState) { s.Entries[2].Deadline = 10 }, func(s *api.CacheState) { s.Entries = s.Entries[1:] },
+		func(s *api.CacheState) { s.Entries[1].Birth = 2 }, func(s *api.CacheState) { s.Entries[1].Birth, s.Probation = 2, []uint64{9} }, func(s *api.CacheState) { s.Entries[0], s.Entries[1] = s.Entries[1], s.Entries[0] }, func(s *api.CacheState) { s.Entries[2].Deadline = 10 }, func(s *api.CacheState) { s.Entries = s.Entries[1:] },
 		func(s *api.CacheState) { s.Probation = s.Probation[1:] }, func(s *api.CacheState) { s.Probation = append(s.Probation, 4) }, func(s *api.CacheState) { s.Probation = append(s.Probation, 5) }, func(s *api.CacheState) { s.Probation = append(s.Probation, 3) },
 		func(s *api.CacheState) { s.Protected = append(s.Protected, 4) }, func(s *api.CacheState) { s.Protected = s.Protected[1:] }, func(s *api.CacheState) { s.Protected = []uint64{5, 5} }, func(s *api.CacheState) { s.Protected[0] = 77 },
 		func(s *api.CacheState) { s.Probation, s.Protected = []uint64{9}, []uint64{4, 5, 2} }, func(s *api.CacheState) { s.Events[0].Key = "" }, func(s *api.CacheState) { s.Events[0].At = 4 }, func(s *api.CacheState) { s.Events[2].At = 11 },
@@ -526,4 +526,32 @@ func TestMany(t *testing.T) {
 		at = x.Birth
 	}
 	is(t, "2000")(n)
+}
+
+func TestMostEvents(t *testing.T) {
+	s := good()
+	v := s.Events[0]
+	s.Events = make([]api.Event, event.MaxEvents)
+	for i := range s.Events {
+		s.Events[i] = v
+	}
+	c, e := cache.Restore(s)
+	is(t, "true 0 7 1048576 0")(cache.Valid(s), e, c.Advance(10), len(c.Drain()), c.Advance(10))
+}
+
+func TestCompact(t *testing.T) {
+	c := cacheOf(t, of(9, 1000, 50))
+	for i := range 5 {
+		_ = c.Set(1, strconv.Itoa(i), nil)
+	}
+	_, _ = c.Delete(1, "1")
+	_, _, _ = c.Get(1, "3")
+	c.Drain()
+	was := fmt.Sprint(c.State())
+	log, _ := c.Memory()
+	is(t, "5 0")(log, c.Compact(1))
+	log, _ = c.Memory()
+	is(t, "4")(log)
+	is(t, was)(fmt.Sprint(c.State()))
+	is(t, "0 [1 3 5] [4]")(c.Set(1, "5", nil), c.Order(api.Probation)[:3], c.Order(api.Protected))
 }

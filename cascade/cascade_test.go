@@ -178,3 +178,12 @@ func TestModel(t *testing.T) {
 		}
 	}
 }
+
+// TestCopyOfBirths cancels in a copy what is scheduled in the other one.
+func TestCopyOfBirths(t *testing.T) {
+	c := cascade.New(0)
+	_ = c.Schedule(of(1, 9, 7))
+	x := c.Copy()
+	_, _ = x.Cancel(1)
+	is(t, "11 0 11")(c.Schedule(of(2, 9, 7)), x.Schedule(of(2, 9, 7)), c.Schedule(of(1, 9, 8)))
+}

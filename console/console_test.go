@@ -75,6 +75,7 @@ func TestCache(t *testing.T) {
 		"resize 9 0 5", "error 240", "resize 9 1 0", "error 241", "resize 9 1 999999999", "ok", "resize 9 1 1000000000", "error 6", "set 9 6d -", "ok", "drain", "9 evicted 3 12 6c 00", "clear 10", "cleared 1", "clear 10", "cleared 0", "drain", "10 cleared 4 never 6d -",
 		"resize 10 5 48", "ok", "set 10 6d -", "error 12", "advance never", "ok", "advance 5", "ok", "set 5 6d", "error 6", "set 5", "error 6", "set 5 6d - 1 2", "error 6", "get 5", "error 6", "new", "ok", "advance 0", "ok", "set 1 6d - never", "ok", "entries", "1 never 6d -",
 		"advance 999999999", "ok", "advance 1000000000", "error 6", "advance Never", "error 6", "advance -1", "error 6", "advance +1", "error 6", "advance ", "error 6", "advance 00", "error 6", "clear x", "error 6", "clear", "error 6", "", "error 6", " ", "error 6", "nothing", "error 6", " advance 1", "error 6", "advance  1", "error 6", "Advance 1", "error 6", "advance 1 ", "error 6", "advance 1\n", "error 6",
+		"order", "probation 1|protected", "set 999999999 61 -", "ok", "get 0 6d", "hit -", "get 0 6d00", "miss", "get 0 6d0", "error 6",
 		"get 1 "+strings.Repeat("61", 251), "error 2", "get 1 "+strings.Repeat("61", 250), "miss", "delete 1 -", "error 2", "delete 1 zz", "error 6",
 	)
 }
@@ -178,4 +179,23 @@ func TestSeeds(t *testing.T) {
 			t.Error(seed, got)
 		}
 	}
+}
+
+// TestWords does each command with a word more and with a word less.
+func TestWords(t *testing.T) {
+	var c console.Console
+	do(t, &c, "script g 000161", "ok", "open", "0", "set 1 61 -", "ok")
+	text := "count=2 bytes=1000 protected=0 seed=0 same=no"
+	for _, line := range []string{"script a 00", "show g", "drop g", "names", "config " + text, "other " + text, "configs", "run g", "events g", "check g", "compact g", "differ g", "shrink g h", "scores g lru 2", "journal g", "new", "get 1 61", "touch 1 61 5", "delete 1 61", "resize 1 2 100", "clear 1", "advance 1", "entries", "order", "drain", "open", "close 0", "next 1 0", "save", "load -"} {
+		do(t, &c, line+" 0", "error 6", line+" ", "error 6")
+		if i := strings.LastIndexByte(line, ' '); i > 0 {
+			do(t, &c, line[:i], "error 6")
+		}
+	}
+	do(t, &c, "set 1 61", "error 6", "set 1 61 - 5 5", "error 6", "show g", "000161", "entries", "1 never 61 -", "open", "1")
+	for range 9 {
+		_, _ = c.Do("set 1 62 -")
+		_, _ = c.Do("delete 1 62")
+	}
+	do(t, &c, "set 1 63 -", "ok", "order", "probation 1 11|protected")
 }

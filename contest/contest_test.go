@@ -111,6 +111,13 @@ func TestErrors(t *testing.T) {
 	kinds = append(kinds, lru)
 	is(t, "[] 7")(contest.Table(kinds, sizes, good))
 	is(t, "[] 2")(contest.Table(kinds, sizes, api.Load{}))
+	sizes[7] = 0
+	is(t, "[] 2")(contest.Table(kinds, sizes, good))
+	sizes[7] = 1025
+	is(t, "[] 2")(contest.Table(kinds, sizes, good))
+	sizes[7] = 8
+	score, e := contest.Run(lru, 1, long[1:])
+	is(t, "{1 1 {4096 4095}} 0")(score, e)
 	kinds[20] = 9
 	is(t, "[] 2")(contest.Table(kinds, sizes, good))
 	is(t, "[] 0")(contest.Table(kinds, nil, good))

@@ -139,3 +139,12 @@ func TestModel(t *testing.T) {
 		}
 	}
 }
+
+// TestCopyOfBirths removes from a copy what the other one has.
+func TestCopyOfBirths(t *testing.T) {
+	d := due.New(0)
+	_ = d.Set(1, 9, 7)
+	x := d.Copy()
+	_ = x.Remove(1)
+	is(t, "11 0 11")(d.Set(2, 9, 7), x.Set(2, 9, 7), d.Set(1, 9, 8))
+}

@@ -124,6 +124,9 @@ func TestEnd(t *testing.T) {
 	_, _ = f.Drop(11, "b")
 	is(t, "{3 [] 4} 0")(f.Ask(11, "a", 6))
 	is(t, "[{5 [7] 0} {6 [7] 0}] 0")(f.End(20, 4, []byte{7}, 0))
+	_, _ = f.Ask(11, "c", 9)
+	l, e = f.End(11, 5, make([]byte, 65536), 0)
+	is(t, "65536 0")(len(l[0].Value), e)
 	is(t, "11 0 []")(f.Cache().Now(), f.Cache().Len(), f.Cache().State().Events)
 }
 

@@ -3,6 +3,7 @@ package journal_test
 import (
 	"bytes"
 	"fmt"
+	"slices"
 	"strings"
 	"testing"
 
@@ -215,4 +216,37 @@ func TestCopy(t *testing.T) {
 	z := of(t, api.Op{Kind: api.OpSet, Key: "k", Value: v})
 	v[0] = 'w'
 	is(t, "[118]")(z.Ops()[0].Value)
+}
+
+// TestCopies appends different records to journals of all lengths and their copies.
+func TestCopies(t *testing.T) {
+	var j journal.Journal
+	for n := range 40 {
+		x := j.Copy()
+		y := j.Copy()
+		_, _, _ = x.Append(get), y.Append(adv), j.Append(set)
+		for i, z := range []*journal.Journal{x, y, &j} {
+			l := z.Ops()
+			if len(l) != n+1 || !script.Equal(l[n], []api.Op{get, adv, set}[i]) {
+				t.Fatal(n, i)
+			}
+		}
+	}
+	l, e := journal.Run(api.Config{Count: 1, Bytes: 1}, slices.Repeat([]api.Op{adv}, 4096))
+	is(t, "4096 0")(len(l), e)
+}
+
+// TestAllBytes has as many bytes as a journal may have.
+func TestAllBytes(t *testing.T) {
+	var j journal.Journal
+	big := api.Op{Kind: api.OpSet, Key: strings.Repeat("k", 31), Value: make([]byte, 255)}
+	for range 3554 {
+		_ = j.Append(big)
+	}
+	big.Value = make([]byte, 107)
+	is(t, "7")(j.Append(big))
+	big.Value = make([]byte, 106)
+	is(t, "0 1048576 7")(j.Append(big), len(j.Bytes()), j.Append(adv))
+	l, n := journal.Read(j.Bytes())
+	is(t, "3555 1048576")(len(l), n)
 }

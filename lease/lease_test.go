@@ -147,3 +147,31 @@ func TestCopy(t *testing.T) {
 	_, _, _, _ = x.Ask(1, "a")
 	is(t, "0")(len(x.Cache().Drain()))
 }
+
+func TestBounds(t *testing.T) {
+	l := lender(t, 70000, 1<<40)
+	_, _, _, _ = l.Ask(0, "k")
+	x := l.Copy()
+	is(t, "0 0 0")(x.Return(1), l.Fill(0, 1, make([]byte, 65536), 0), x.Set(0, "k", make([]byte, 65536), 0))
+	small := lender(t, 100, 5)
+	is(t, "0 12")(small.Set(0, "k", make([]byte, 51), 0), small.Set(0, "k", make([]byte, 52), 0))
+	y := lender(t, 1000, 5)
+	_, _, _, _ = y.Ask(0, "k")
+	z := y.Copy()
+	is(t, "0 0 9 9")(z.Return(1), y.Return(1), z.Return(1), y.Return(1))
+}
+
+// TestEvents looks at the events of a call, which later ones drain.
+func TestEvents(t *testing.T) {
+	l := lender(t, 1000, 5)
+	_, _, _, _ = l.Ask(0, "q")
+	for _, f := range []func(){
+		func() { _ = l.Set(0, "k", old, 0) }, func() { _, _ = l.Delete(0, "k") }, func() { _ = l.Renew(0, 1) }, func() { _ = l.Set(0, "a", v, 2) }, func() { _ = l.Set(0, "a", v, 2) }, func() { _ = l.Fill(0, 1, v, 0) },
+	} {
+		_ = l.Set(0, "k", v, 0)
+		f()
+		if n := len(l.Cache().Drain()); n > 1 {
+			t.Error(n)
+		}
+	}
+}

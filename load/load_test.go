@@ -96,7 +96,7 @@ func TestMake(t *testing.T) {
 }
 
 func TestValid(t *testing.T) {
-	for _, l := range []api.Load{of(loop, 4096, 4096, 0, 0), of(scan, 1, 1, 0, 0), of(scan, 1, 0, 0, 0), of(even, 1, 1, 0, 1<<64-1), of(skew, 1, 1, 1, 1), of(skew, 1, 1, 8, 1), of(phases, 64, 1, 64, 1), of(phases, 3, 1, 3, 1), of(mixed_, 2, 1, 1, 1), of(mixed_, 2, 1, 4096, 1)} {
+	for _, l := range []api.Load{of(loop, 4096, 4096, 0, 0), of(scan, 1, 1, 0, 0), of(scan, 1, 0, 0, 0), of(even, 1, 1, 0, 1<<64-1), of(skew, 1, 1, 1, 1), of(skew, 1, 1, 8, 1), of(phases, 64, 1, 64, 1), of(phases, 3, 1, 3, 1), of(phases, 3, 5, 1, 1), of(mixed_, 2, 1, 1, 1), of(mixed_, 2, 1, 4096, 1)} {
 		_, e := load.Make(l)
 		s, f := load.Text(l)
 		x, g := load.Parse(s)

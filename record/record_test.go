@@ -48,3 +48,16 @@ func TestRecord(t *testing.T) {
 		t.Error("two operations")
 	}
 }
+
+// TestLong has a record whose length needs both bytes.
+func TestLong(t *testing.T) {
+	o := api.Op{Kind: api.OpSet, Key: "a", Value: make([]byte, 255)}
+	b, ok := record.Of(o, 1)
+	if !ok || b[0] != 1 || b[1] != 3 || len(b) != 6+259 {
+		t.Error(b[:2], len(b), ok)
+	}
+	x, n, ok := record.Next(b, 1)
+	if !ok || n != len(b) || !script.Equal(x, o) {
+		t.Error(n, ok)
+	}
+}

@@ -230,3 +230,20 @@ func TestAnyOrder(t *testing.T) {
 		}
 	}
 }
+
+// TestAllBytes has as many bytes as a journal may have.
+func TestAllBytes(t *testing.T) {
+	l, f := leader(t, config), follower(t, config)
+	big := api.Op{Kind: api.OpSet, Key: strings.Repeat("k", 31), Value: make([]byte, 255)}
+	for n := range 3555 {
+		if n == 3554 {
+			big.Value = make([]byte, 106)
+		}
+		_, e := l.Do(big)
+		if s := received(f.Receive(n, record(l, n))); s != "1 0" || e != api.OK {
+			t.Fatal(n, s, e)
+		}
+	}
+	_, e := l.Do(adv)
+	is(t, "7")(e)
+}

@@ -116,6 +116,10 @@ func TestOwner(t *testing.T) {
 			}
 		}
 	}
+	// a key that is a point of a name has this name
+	for _, n := range names {
+		is(t, n+" 0")(shard.Owner(names, 3, 77, n+"#1"))
+	}
 	many := make([]string, 33)
 	for i := range many {
 		many[i] = "n" + strconv.Itoa(i)
@@ -277,4 +281,15 @@ func TestMove(t *testing.T) {
 	is(t, "true "+nameC)(m > 0 && l > 0, strings.Join(s.Names(), " "))
 	c, _ = s.Cache(nameC)
 	is(t, "80")(c.Len())
+}
+
+func TestTimeOfNew(t *testing.T) {
+	s := shards(t, config, 3, nameA)
+	_ = s.Set(5, "k", v, 0)
+	_, _ = s.Add(9, nameB)
+	a, _ := s.Cache(nameA)
+	b, _ := s.Cache(nameB)
+	_, _ = s.Add(2, nameC)
+	c, _ := s.Cache(nameC)
+	is(t, "9 9 9")(a.Now(), b.Now(), c.Now())
 }

@@ -173,3 +173,21 @@ func TestModel(t *testing.T) {
 		}
 	}
 }
+
+// TestCopyOfFree frees cells in an arena and in its copy.
+func TestCopyOfFree(t *testing.T) {
+	a, _ := slab.New(1000)
+	for range 8 {
+		_, _ = a.Put(nil)
+	}
+	for n := range 5 {
+		_ = a.Free(cell(0, n))
+	}
+	b := a.Copy()
+	_, _ = a.Put(nil)
+	_, _ = b.Put(nil)
+	_ = a.Free(cell(0, 6))
+	_ = b.Free(cell(0, 7))
+	is(t, "[6 3 2 1 0] 0")(a.Frees(0))
+	is(t, "[7 3 2 1 0] 0")(b.Frees(0))
+}

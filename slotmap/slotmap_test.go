@@ -21,6 +21,16 @@ func TestSlots(t *testing.T) {
 	if slot, ok := s.Take(1<<32 - 1); slot != 0 || ok {
 		t.Error(slot, ok)
 	}
+	if s.Key(3) != 0 {
+		t.Error("no such slot")
+	}
+	y := s.Copy()
+	if a, b := s.Put(8), y.Put(9); a != 1 || b != 1 || s.Key(1) != 8 || y.Key(1) != 9 {
+		t.Error(a, b)
+	}
+	_, _ = s.Take(8)
+	_, _ = y.Take(9)
+	_, _ = y.Take(0)
 	if slot := s.Put(7); slot != 1 || s.Key(1) != 7 || x.Key(1) != 1<<32-1 || x.Len() != 3 {
 		t.Error(slot)
 	}

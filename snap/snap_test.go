@@ -201,3 +201,25 @@ func TestGoesOn(t *testing.T) {
 		}
 	}
 }
+
+// TestLongest has just as many bytes as a snapshot may have, and one more.
+func TestLongest(t *testing.T) {
+	s := api.CacheState{Config: api.Config{Count: 1000, Bytes: 1 << 30}, Births: 1000}
+	for i := range 256 {
+		s.Entries = append(s.Entries, api.Entry{Key: strconv.Itoa(i + 1000), Value: make([]byte, 65000), Deadline: 1, Birth: uint64(i + 1)})
+		s.Probation = append(s.Probation, uint64(i+1))
+	}
+	b, e := snap.Write(s)
+	more := 1<<24 - len(b)
+	for i := range s.Entries {
+		n := min(more, 536)
+		s.Entries[i].Value = make([]byte, 65000+n)
+		more -= n
+	}
+	b, f := snap.Write(s)
+	is(t, "0 0 0 16777216")(e, more, f, len(b))
+	x, g := snap.Read(b)
+	is(t, "256 0")(len(x.Entries), g)
+	s.Entries[255].Value = append(s.Entries[255].Value, 0)
+	is(t, "[] 5")(snap.Write(s))
+}

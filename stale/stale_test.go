@@ -59,6 +59,8 @@ func TestErrors(t *testing.T) {
 		s, e := stale.New(api.Config{}, r)
 		is(t, "true 2")(s == nil, e)
 	}
+	widest, e := stale.New(api.Config{Count: 1, Bytes: 1000}, rule(1<<40, 1<<40, 1<<40, 1<<40))
+	is(t, "false 0")(widest == nil, e)
 	for want, c := range map[api.Errno]api.Config{240: {}, 241: {Count: 1}, 242: {Count: 1, Bytes: 1, Protected: -1}} {
 		s, e := stale.New(c, good)
 		is(t, fmt.Sprint(true, int(want)))(s == nil, e)
@@ -99,6 +101,7 @@ func TestKept(t *testing.T) {
 	is(t, "2 [] 0")(s.Ask(313, "m"))
 	is(t, "false 0")(s.Drop(313, "k"))
 	is(t, "true 0")(s.Drop(313, "m"))
+	is(t, "[]")(s.Cache().Drain())
 	is(t, wait)(s.Ask(313, "m")) // the load goes on
 	is(t, miss)(s.Ask(314, "m"))
 	is(t, miss)(s.Ask(400, "z"))

@@ -152,7 +152,10 @@ func TestFull(t *testing.T) {
 
 func TestErrors(t *testing.T) {
 	for i, x := range []*swiss.Index{nil, {}} {
-		_, a := x.Find(1, nil)
+		s0, a := x.Find(1, nil)
+		if s0 != 0 {
+			t.Error(s0)
+		}
 		y, b := x.Rehash(3, nil)
 		if a != api.ErrNil || b != api.ErrNil || y != nil || x.Insert(1, 1) != api.ErrNil || x.Remove(1, 1) != api.ErrNil || x.Replace(1, 1, 1) != api.ErrNil {
 			t.Error(i)

@@ -75,6 +75,8 @@ func TestErrors(t *testing.T) {
 	is(t, "[118] true 0")(h.Get(7, "a", "k")) // nothing has changed, not even the time
 	is(t, "[] false 0")(h.Get(8, "a", "k"))
 	is(t, "0")(h.Set(8, "a", "k", make([]byte, 51), 0))
+	one := house(t, 1)
+	is(t, "1 0")(one.Free(), one.Add(0, "a", 1))
 	x := house(t, 1<<40)
 	for i := range tenant.MaxTenants {
 		is(t, "0")(x.Add(0, "n"+strconv.Itoa(i), 1))
@@ -165,4 +167,22 @@ func TestCopy(t *testing.T) {
 	_ = h.Give(0, "a", "b", 1)
 	_, _ = h.Remove(0, "a")
 	is(t, "2 300")(len(x.Tenants()), h.Free())
+}
+
+// TestGiven looks at the pressure right after entries were evicted, and at the time of a new tenant.
+func TestGiven(t *testing.T) {
+	h := house(t, 1000)
+	_ = h.Add(0, "a", 200)
+	_ = h.Add(0, "b", 200)
+	fill(h, "a", 4)
+	is(t, "0 [{a 100 2 98 2} {b 300 0 0 0}]")(h.Give(0, "a", "b", 100), h.Tenants())
+	fill(h, "b", 9) // 3 are evicted
+	is(t, "a>b:0 [{a 50 1 49 0} {b 350 6 294 0}]")(balance(h.Balance(0, 50)), h.Tenants())
+	_, _, _ = h.Get(1, "a", "k")
+	is(t, "[{a 50 1 49 0} {b 350 6 294 0}]")(h.Tenants())
+	x := house(t, 1000)
+	_ = x.Add(7, "a", 100)
+	is(t, "0")(x.Set(2, "a", "k", v, 1))
+	is(t, "[118] true 0")(x.Get(7, "a", "k"))
+	is(t, "[] false 0")(x.Get(8, "a", "k"))
 }

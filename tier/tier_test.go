@@ -204,3 +204,25 @@ func TestModel(t *testing.T) {
 		}
 	}
 }
+
+// TestUse looks at what is used in the second cache by a key that is found there.
+func TestUse(t *testing.T) {
+	for _, exclusive := range []bool{false, true} {
+		s := tiers(t, of(1, 60), of(9, 1000), exclusive, false)
+		for _, k := range []string{"x", "y", "z"} { // too big for the first cache
+			_ = s.Set(1, k, make([]byte, 40), 0)
+		}
+		_, _, _ = s.Get(1, "x")
+		_, b := s.Caches()
+		is(t, "[2 3 1]")(b.Order(api.Probation))
+	}
+	s := tiers(t, of(1, 1000), of(9, 1000), false, false)
+	for _, k := range []string{"x", "y", "z"} {
+		_ = s.Set(1, k, nil, 0)
+	}
+	_, _, _ = s.Get(1, "x")
+	_, _, _ = s.Get(1, "x") // in the first cache now
+	_, _, _ = s.Get(1, "y")
+	_, b := s.Caches()
+	is(t, "[3 1 2]")(b.Order(api.Probation))
+}

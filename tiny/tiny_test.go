@@ -116,7 +116,7 @@ func TestModel(t *testing.T) {
 		put := func(i int, key uint32) { l[i] = slices.Insert(l[i], 0, key) }
 		for step := range 3000 {
 			r = r*1664525 + 1013904223
-			key := min(r>>16%uint32(size*3), r>>8%uint32(size*3)) << 8
+			key := min(r>>16%uint32(size*3), r>>8%uint32(size*3)) * 0x01030507
 			at := slices.IndexFunc(l[:], func(x []uint32) bool { return slices.Contains(x, key) })
 			if r>>4%15 == 0 {
 				is(t, fmt.Sprint(at >= 0, 0))(c.Drop(key))
@@ -176,6 +176,33 @@ func TestModel(t *testing.T) {
 				_, _ = c.Use(1 << 31)
 				_, _ = c.Drop(key)
 				c = y
+			}
+		}
+	}
+}
+
+// TestKeys has keys that differ in one byte each.
+func TestKeys(t *testing.T) {
+	for shift := 0; shift < 32; shift += 8 {
+		c := cacheOf(t, 16, 1, 0, 3)
+		s, _ := sketch.New(16, 3, 0)
+		f, _ := bloom.New(128, 3, 3)
+		for k := range uint32(100) {
+			key := k << shift
+			_, _ = c.Use(key)
+			if f.Has(text(key)) {
+				_, _ = s.Add(text(key))
+			} else {
+				_, _ = f.Add(text(key))
+			}
+			for j := range uint32(100) {
+				want := s.Count(text(j << shift))
+				if f.Has(text(j << shift)) {
+					want++
+				}
+				if got := c.Guess(j << shift); got != want {
+					t.Fatal(shift, k, j, got, want)
+				}
 			}
 		}
 	}

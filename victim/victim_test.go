@@ -79,6 +79,8 @@ func TestErrors(t *testing.T) {
 	is(t, "[4194303] 0")(victim.Choose(l(1<<22-1, 1<<40), nil, nobody, 1, 1<<40-1))
 	o, e := victim.Order(many[:victim.MaxVictims-1], many[victim.MaxVictims:], 5)
 	is(t, "2097151 0")(len(o), e)
+	o, e = victim.Order(many[:victim.MaxVictims], nil, nobody)
+	is(t, "2097152 0")(len(o), e)
 }
 
 func TestConsequences(t *testing.T) {
