@@ -180,6 +180,13 @@ func TestErrors(t *testing.T) {
 	if e := x.Remove(1, 0); e != api.ErrNone {
 		t.Error(e)
 	}
+	_ = x.Insert(1, 7)
+	if s, e := x.Find(1, func(uint32) bool { panic("find") }); s != 0 || e != api.ErrArg {
+		t.Error(s, e)
+	}
+	if y, e := x.Rehash(1, func(uint32) uint64 { panic("rehash") }); y != nil || e != api.ErrArg || x.Len() != 1 {
+		t.Error(e)
+	}
 }
 
 func TestMany(t *testing.T) {
