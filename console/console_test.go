@@ -59,7 +59,7 @@ func TestLab(t *testing.T) {
 		"config count=1 bytes=0 protected=0 seed=3 same=yes", "error 6", "config count=1", "error 6", "other count=01 bytes=48 protected=0 seed=3 same=yes", "error 6", "config count=1 bytes=100 protected=0 seed=5 same=no", "ok",
 		"script g 000161010161020909000161", "ok", "run g", "run:|- ops 3|- errors 0|- gets 2|- hits 1|- sets 1|- expired 0|- evicted 0|- replaced 0|- deleted 0|- cleared 0|- len 1|- cost 51",
 		"events g", "none", "script e 02016100000511016200", "ok", "events e", "1 evicted 1 5 61 -", "script x 020161000005f90000", "ok", "events x", "15 expired 1 5 61 -",
-		"check g", "fine", "compact g", "same", "differ g", "first 1", "shrink g h", "tried 4", "names", "a e g h x", "show h", "010161020909",
+		"check g", "fine", "compact g", "same", "differ g", "first 1", "shrink g h", "tried 4", "names", "a e g h x", "show h", "010161020909", "differ h", "first 0",
 		"shrink g 1", "error 2", "other count=1 bytes=100 protected=0 seed=7 same=yes", "ok", "differ g", "same", "shrink g h", "error 10",
 		"scores g best 1", "best at 1: 2 of 3, 2/3 66.67%", "scores g Best 1", "error 6", "scores g best 01", "error 6", "scores g best 0", "error 2", "scores z best 1", "error 9", "scores z none 1", "error 6", "scores g tiny 1", "error 2",
 		"journal h", "0006010161020909"+sum("0006010161020909"), "script n -", "ok", "journal n", "-", "run n", "run:|- ops 0|- errors 0|- gets 0|- hits 0|- sets 0|- expired 0|- evicted 0|- replaced 0|- deleted 0|- cleared 0|- len 0|- cost 0",

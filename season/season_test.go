@@ -174,6 +174,7 @@ func TestCounter(t *testing.T) {
 	c, _ := season.New(1 << 32)
 	is(t, "0 9")(c.Best())
 	is(t, "0 0 9")(c.Share(3))
+	is(t, "0 0 9")(c.Share(api.Never))
 	is(t, "0 [{0 0} {0 0} {0 0} {0 0}]")(c.Season(), first(c.Wave()))
 	is(t, "2 2 3 0 0 7 7 7 0")(c.Use(0, -1), c.Use(api.Never, -1), c.Use(api.Never, 1), c.Use(1<<32-1, most), c.Use(1<<32, 5), c.Use(4<<32, 1), c.Use(0, 1<<63-1), c.Use(1<<32, most-4), c.Use(1<<32, most-5))
 	is(t, "[1048576 1048576 0 0] 1")(c.Counts(), c.Season())

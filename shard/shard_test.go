@@ -118,7 +118,7 @@ func TestOwner(t *testing.T) {
 	}
 	// a key that is a point of a name has this name
 	for _, n := range names {
-		is(t, n+" 0")(shard.Owner(names, 3, 77, n+"#1"))
+		is(t, n+" 0")(shard.Owner(names, 1, 77, n+"#0"))
 	}
 	many := make([]string, 33)
 	for i := range many {

@@ -28,9 +28,14 @@ func TestSlots(t *testing.T) {
 	if a, b := s.Put(8), y.Put(9); a != 1 || b != 1 || s.Key(1) != 8 || y.Key(1) != 9 {
 		t.Error(a, b)
 	}
+	z := s.Copy()
 	_, _ = s.Take(8)
-	_, _ = y.Take(9)
+	y = s.Copy()
+	_, _ = s.Take(5)
 	_, _ = y.Take(0)
+	if a, b := s.Put(5), y.Put(0); a != 0 || b != 2 || z.Len() != 3 {
+		t.Error(a, b)
+	}
 	if slot := s.Put(7); slot != 1 || s.Key(1) != 7 || x.Key(1) != 1<<32-1 || x.Len() != 3 {
 		t.Error(slot)
 	}
